@@ -1,0 +1,1 @@
+"""Moulds and one crane: blades wait, lie in moulds, and are lifted out one at a time."""
