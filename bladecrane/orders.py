@@ -1,18 +1,19 @@
 """Orders: blades that wait, put one behind another, each into its best mould."""
 
 from bladecrane.placing import best_job, last_out
+from bladecrane.works import all_jobs
 
 
 # The number of jobs has no limit here: nothing is really put.
 def end_of_order(works, order):
-    jobs = list(works.jobs.values())
+    jobs = all_jobs(works)
     for number in order:
         jobs.append(best_job(works, jobs, works.waiting[number]))
     return last_out(works, jobs)
 
 
 def best_order(works):
-    return better_order(works, list(works.jobs.values()), [], sorted(works.waiting), None)
+    return better_order(works, all_jobs(works), [], sorted(works.waiting), None)
 
 
 # Gives back (when the last one is out, the order): the best of all orders that

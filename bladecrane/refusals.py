@@ -7,3 +7,5 @@ IN_USE = -17
 OUT_OF_RANGE = -22
 FULL = -28
 NOT_POSSIBLE = -33
+# The same number: of the crane or a mould, that it isn't used in the minute asked for.
+NOT_IN_USE = -33

@@ -1,23 +1,15 @@
-"""What each call does, and the numbers that it answers.
+"""What each call does and answers: those up to follow stand here, the others in tellings.
 
 Each takes the works and the list of numbers that stand behind the call's own.
 """
 
+from bladecrane.limits import FARTHEST_AHEAD, HIGHEST_KIND, LAST_MINUTE, LONGEST_CLEAN, LONGEST_IN_MOULD
+from bladecrane.limits import LONGEST_LIFT, LONGEST_PASS, MOST_JOBS, MOST_MOULDS, MOST_WAITING
 from bladecrane.orders import best_order, end_of_order
 from bladecrane.placing import best_job, has_mould, job_from, mould_is_used
 from bladecrane.refusals import BEGUN, FULL, IN_USE, NONE_SUCH, NOT_POSSIBLE, NOT_STARTED, OUT_OF_RANGE
-from bladecrane.works import Blade, add_waiting, make_job, make_waiting
-
-LONGEST_LIFT = 60
-LONGEST_CLEAN = 60
-HIGHEST_KIND = 3
-LONGEST_IN_MOULD = 200
-MOST_MOULDS = 4
-MOST_WAITING = 5
-MOST_JOBS = 12
-FARTHEST_AHEAD = 300
-LONGEST_PASS = 1000
-LAST_MINUTE = 100000
+from bladecrane.tellings import TELLINGS
+from bladecrane.works import Blade, add_waiting, all_jobs, is_mould, make_job, make_waiting
 
 
 def start_anew(works, given):
@@ -65,33 +57,38 @@ def tell_best(works, given):
     blade = works.waiting[number]
     if not has_mould(works, blade):
         return [NOT_POSSIBLE]
-    job = best_job(works, list(works.jobs.values()), blade)
+    job = best_job(works, all_jobs(works), blade)
     return [job.out, job.mould, job.begin, job.lifted]
+
+
+def put_into_best(works, number):
+    job = best_job(works, all_jobs(works), works.waiting[number])
+    return make_job(works, number, job)
 
 
 def put_blade(works, given):
     number = given[0]
     if number not in works.waiting:
         return [NONE_SUCH]
-    blade = works.waiting[number]
-    if not has_mould(works, blade):
+    if not has_mould(works, works.waiting[number]):
         return [NOT_POSSIBLE]
     if len(works.jobs) >= MOST_JOBS:
         return [FULL]
-    job = best_job(works, list(works.jobs.values()), blade)
-    return [make_job(works, number, job), job.mould, job.begin, job.lifted]
+    job_number = put_into_best(works, number)
+    job = works.jobs[job_number]
+    return [job_number, job.mould, job.begin, job.lifted]
 
 
 def put_blade_at(works, given):
     number = given[0]
     mould = given[1]
     begin = given[2]
-    if number not in works.waiting or mould >= len(works.moulds):
+    if number not in works.waiting or not is_mould(works, mould):
         return [NONE_SUCH]
     blade = works.waiting[number]
     if works.moulds[mould] != blade.kind or not 0 <= begin - works.minute <= FARTHEST_AHEAD:
         return [OUT_OF_RANGE]
-    jobs = list(works.jobs.values())
+    jobs = all_jobs(works)
     job = job_from(works, jobs, blade, mould, begin)
     if mould_is_used(jobs, job):
         return [IN_USE]
@@ -119,6 +116,7 @@ def pass_by(works, given):
     for number in list(works.jobs):
         if works.jobs[number].free <= works.minute:
             works.jobs.pop(number)
+            works.done += 1
     return [works.minute]
 
 
@@ -130,21 +128,34 @@ def tell_order(works, given):
     order = given[1:]
     if len(set(order)) < len(order):
         return [NOT_POSSIBLE]
-    for number in order:
-        if not can_be_put(works, number):
-            return [NOT_POSSIBLE]
+    if not all([can_be_put(works, number) for number in order]):
+        return [NOT_POSSIBLE]
     return [end_of_order(works, order)]
 
 
+def all_can_be_put(works):
+    return all([can_be_put(works, number) for number in works.waiting])
+
+
 def tell_plan(works, given):
-    for number in works.waiting:
-        if not can_be_put(works, number):
-            return [NOT_POSSIBLE]
+    if not all_can_be_put(works):
+        return [NOT_POSSIBLE]
     found = best_order(works)
     return [found[0]] + found[1]
 
 
-# A call's number is its place in both of these.
+def follow_plan(works, given):
+    if not all_can_be_put(works):
+        return [NOT_POSSIBLE]
+    if len(works.jobs) + len(works.waiting) > MOST_JOBS:
+        return [FULL]
+    found = best_order(works)
+    for number in found[1]:
+        put_into_best(works, number)
+    return [found[0]]
+
+
+# A call's number is its place here; those of TELLINGS follow on.
 REPLIES = (
     start_anew,
     add_mould,
@@ -157,8 +168,10 @@ REPLIES = (
     pass_by,
     tell_order,
     tell_plan,
+    follow_plan,
 )
-GIVEN_COUNTS = (2, 1, 2, 1, 1, 1, 3, 1, 1, 0, 0)
+# How many whole numbers stand behind each call's own, of all 21 calls.
+GIVEN_COUNTS = (2, 1, 2, 1, 1, 1, 3, 1, 1, 0, 0, 0, 0, 1, 2, 1, 1, 1, 1, 0, 0)
 START = 0
 ORDER = 9
 
@@ -174,5 +187,8 @@ def count_given(calls, place):
 def reply_to(works, number, given):
     if number != START and not works.started:
         return [NOT_STARTED]
-    reply = REPLIES[number]
+    if number < len(REPLIES):
+        reply = REPLIES[number]
+    else:
+        reply = TELLINGS[number - len(REPLIES)]
     return reply(works, given)

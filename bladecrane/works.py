@@ -14,6 +14,7 @@ class Job:
         self.blade = blade
         self.mould = mould
         self.begin = begin
+        self.ready = begin + blade.minutes
         self.lifted = lifted
         self.out = out
         self.free = free
@@ -32,6 +33,15 @@ class Works:
         self.moulds = []
         self.waiting = {}
         self.jobs = {}
+        self.done = 0
+
+
+def is_mould(works, number):
+    return number < len(works.moulds)
+
+
+def all_jobs(works):
+    return list(works.jobs.values())
 
 
 def least_free_number(taken):

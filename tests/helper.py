@@ -3,6 +3,7 @@
 from bladecrane.hall import answers
 
 HIGHEST = 4294967295
+MOST_CALLS = 200
 
 
 def start(lift, clean):
@@ -49,6 +50,46 @@ def plan():
     return [10]
 
 
+def follow():
+    return [11]
+
+
+def over():
+    return [12]
+
+
+def crane(t):
+    return [13, t]
+
+
+def inside(m, t):
+    return [14, m, t]
+
+
+def free_at(m):
+    return [15, m]
+
+
+def lifts(t):
+    return [16, t]
+
+
+def idle(m):
+    return [17, m]
+
+
+def job(j):
+    return [18, j]
+
+
+def waiting():
+    return [19]
+
+
+def state():
+    return [20]
+
+
 def split(told):
     """Each call's numbers as a list of its own."""
     found = []
@@ -64,6 +105,8 @@ def split(told):
 
 def ask(*calls):
     """What each of these calls answers, on one new object."""
+    if len(calls) > MOST_CALLS:
+        raise AssertionError(f"{len(calls)} calls in one list")
     found = split(answers([number for call in calls for number in call]))
     if len(found) != len(calls):
         raise AssertionError(f"{len(calls)} calls, {len(found)} answers")
@@ -72,3 +115,12 @@ def ask(*calls):
 
 def ask_last(*calls):
     return ask(*calls)[-1]
+
+
+def ask_behind(calls, questions):
+    """What each question answers behind these calls; they must change nothing, as a list holds only so many calls."""
+    many = MOST_CALLS - len(calls)
+    told = []
+    for place in range(0, len(questions), many):
+        told += ask(*calls, *questions[place:place + many])[len(calls):]
+    return told

@@ -4,7 +4,12 @@ import itertools
 import random
 import unittest
 
-from tests.helper import HIGHEST, ask, at, best, blade, cancel, drop, mould, order, pass_by, plan, put, start
+from tests.helper import (
+    HIGHEST, ask, at, best, blade, cancel, crane, drop, follow, free_at, idle, inside, job, lifts, mould, order, over,
+    pass_by, plan, put, start, state, waiting)
+
+NAMES = """start mould blade drop best put at cancel pass_by order plan follow over crane inside free_at lifts idle job
+    waiting state""".split()
 
 
 def least_free(taken):
@@ -21,7 +26,7 @@ class Model:
         if lift not in range(1, 61) or clean not in range(61):
             return [-22]
         self.started, self.lift, self.clean, self.now = True, lift, clean, 0
-        self.moulds, self.waits, self.jobs = [], {}, {}
+        self.moulds, self.waits, self.jobs, self.done = [], {}, {}, 0
         return [0]
 
     def mould_minutes(self, job):
@@ -31,9 +36,12 @@ class Model:
         return {minute for job in jobs if job[2] == mould for minute in self.mould_minutes(job)}
 
     def lift_from(self, jobs, minute):
-        busy = {taken for job in jobs for taken in range(job[4], job[4] + self.lift)}
+        busy = {taken for job in jobs for taken in self.lift_minutes(job)}
         return next(first for first in itertools.count(minute)
                     if busy.isdisjoint(range(first, first + self.lift)))
+
+    def lift_minutes(self, job):
+        return range(job[4], job[4] + self.lift)
 
     def in_mould(self, jobs, waiting, mould, begin):
         kind, minutes = waiting
@@ -118,7 +126,9 @@ class Model:
         if n not in range(1, 1001) or self.now + n > 100000:
             return [-22]
         self.now += n
+        there = len(self.jobs)
         self.jobs = {j: job for j, job in self.jobs.items() if max(self.mould_minutes(job)) >= self.now}
+        self.done += there - len(self.jobs)
         return [self.now]
 
     def order(self, row):
@@ -132,13 +142,75 @@ class Model:
         soonest = min((self.end_of(row), row) for row in itertools.permutations(sorted(self.waits)))
         return [soonest[0]] + list(soonest[1])
 
+    def follow(self):
+        told = self.plan()
+        if told == [-33]:
+            return told
+        if len(self.jobs) + len(self.waits) > 12:
+            return [-28]
+        for w in told[1:]:
+            self.put(w)
+        return told[:1]
+
+    def over(self):
+        return [self.end(self.jobs.values())]
+
+    def crane(self, t):
+        return [j for j, job in self.jobs.items() if t in self.lift_minutes(job)] or [-33]
+
+    def inside(self, m, t):
+        if m not in range(len(self.moulds)):
+            return [-2]
+        there = [j for j, job in self.jobs.items() if job[2] == m and t in self.mould_minutes(job)]
+        if not there:
+            return [-33]
+        kind, minutes, mould, begin, lifted = self.jobs[there[0]]
+        parts = [0] * minutes + [1] * (lifted - begin - minutes) + [2] * self.lift + [3] * self.clean
+        return there + [parts[t - begin]]
+
+    def free_at(self, m):
+        if m not in range(len(self.moulds)):
+            return [-2]
+        return [max(self.used_minutes(self.jobs.values(), m) | {self.now - 1}) + 1]
+
+    def lifts(self, t):
+        return [self.lift_from(self.jobs.values(), t)] if t in range(self.now, 100001) else [-22]
+
+    def idle(self, m):
+        if m not in range(len(self.moulds)):
+            return [-2]
+        return [len(set(range(self.now, self.over()[0])) - self.used_minutes(self.jobs.values(), m))]
+
+    def job(self, j):
+        if j not in self.jobs:
+            return [-2]
+        kind, minutes, mould, begin, lifted = self.jobs[j]
+        return [mould, kind, begin, begin + minutes, lifted]
+
+    def waiting(self):
+        return [len(self.waits)] + [w for w in range(5) if w in self.waits]
+
+    def state(self):
+        return [self.now, len(self.moulds), len(self.waits), len(self.jobs), self.done]
+
     def answer(self, call):
         if call[0] != 0 and not self.started:
             return [-11]
-        name = ("start", "mould", "blade", "drop", "best", "put", "at", "cancel", "pass_by", "order", "plan")[call[0]]
+        name = NAMES[call[0]]
         if name == "order":
             return self.order(call[2:])
         return getattr(self, name)(*call[1:])
+
+
+def make_question(source, now):
+    """A call that changes nothing, of points 4 and 5."""
+    t = source.choice([now, now + source.randint(-60, 120), now + source.randint(-5, 400)])
+    far = source.choice([now - 1, now, 100000, 100001, HIGHEST])
+    m = source.choice([0, 0, 1, 2, 3, 4, HIGHEST])
+    return source.choice([
+        over(), crane(t), crane(t), crane(far), inside(m, t), inside(m, t), inside(0, t), inside(m, far), free_at(m),
+        lifts(t), lifts(far), idle(m), job(source.choice([0, 1, 2, source.randrange(13), HIGHEST])), waiting(),
+        state()])
 
 
 def make_calls(seed, many):
@@ -151,8 +223,12 @@ def make_calls(seed, many):
     now = 0
     while len(calls) < many:
         w = source.choice([0, 0, 1, 2, 3, 4, 5])
-        pick = source.randrange(100)
-        if pick < 32:
+        pick = source.randrange(140)
+        if pick >= 104:
+            calls.append(make_question(source, now))
+        elif pick >= 100:
+            calls.append(follow())
+        elif pick < 32:
             calls.append(blade(source.randrange(kinds), source.randint(1, longest)))
         elif pick < 40:
             calls.append(best(w))
@@ -180,26 +256,34 @@ def make_calls(seed, many):
     return [[max(number, 0) for number in call] for call in calls]
 
 
+TIMES = [0, 20, 50, 60, 75, 101, 160]
+
+
 class AgainstTheModel(unittest.TestCase):
     def test_long_lists(self):
-        seen = set()
+        seen, parts = set(), set()
         for seed in range(150):
             model = Model()
-            calls = make_calls(seed, 120)
+            # Every third list has a second start in it, which is not refused.
+            calls = make_calls(seed, 120) if seed % 3 else make_calls(seed, 70) + make_calls(seed + 1000, 70)
             for call, told in zip(calls, ask(*calls)):
                 self.assertEqual(told, model.answer(call), (seed, call))
                 seen.add((call[0], min(told[0], 0)))
+                if call[0] == 14 and told[0] >= 0:
+                    parts.add(told[1])
         every_refusal = {0: [-22], 1: [-22, -28], 2: [-22, -28], 3: [-2], 4: [-2, -33], 5: [-2, -33, -28],
-                         6: [-2, -22, -17, -28], 7: [-2, -16, -28], 8: [-22], 9: [-33], 10: [-33]}
+                         6: [-2, -22, -17, -28], 7: [-2, -16, -28], 8: [-22], 9: [-33], 10: [-33], 11: [-33, -28],
+                         12: [], 13: [-33], 14: [-2, -33], 15: [-2], 16: [-22], 17: [-2], 18: [-2], 19: [], 20: []}
         wanted = {(number, told) for number, row in every_refusal.items() for told in row + [0]}
         self.assertEqual(wanted - seen, set())
+        self.assertEqual(parts, {0, 1, 2, 3})
 
 
 class WhatHolds(unittest.TestCase):
     def test_one_lift_at_a_time_and_one_blade_in_a_mould(self):
         """Every job that comes of put and at, and isn't cancelled, with its minutes marked."""
         for seed in range(60):
-            calls = [call for call in make_calls(seed, 150) if call[0] != 7]
+            calls = [call for call in make_calls(seed, 150) if call[0] not in (7, 11)]
             lift, clean = calls[0][1:]
             told = ask(*calls)
             moulds, waits, lifted, used = [], {}, set(), set()
@@ -250,7 +334,11 @@ class WhatHolds(unittest.TestCase):
     def test_minutes_at_once_or_one_behind_another(self):
         for seed in range(40):
             calls = make_calls(seed, 40)
-            behind = [order([]), *[cancel(j) for j in range(12)], *[best(w) for w in range(5)], plan()]
+            behind = [state(), over(), waiting(), *[job(j) for j in range(12)], order([]), *[crane(t) for t in TIMES],
+                      *[idle(m) for m in range(5)], *[free_at(m) for m in range(5)], *[lifts(t) for t in TIMES],
+                      *[inside(m, t) for m in range(2) for t in TIMES], *[best(w) for w in range(5)], plan(),
+                      cancel(0), put(0), follow(), state(), *[cancel(j) for j in range(12)], blade(0, 3), at(0, 0, 60),
+                      drop(0), mould(0), state()]
             for minutes in [1, 2, 17, 60]:
                 at_once = ask(*calls, pass_by(minutes), *behind)
                 singly = ask(*calls, *[pass_by(1)] * minutes, *behind)
